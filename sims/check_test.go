@@ -104,7 +104,7 @@ func TestCheckCircuit(t *testing.T) {
 			if e := netlists.Check(c); e != f.want {
 				t.Errorf("%s: netlists.Check returns %d, not %d", f.name, e, f.want)
 			}
-			for _, m := range mistakes()[:10] {
+			for _, m := range mistakes() {
 				p := pattern("01Z", "XXX")
 				m.change(&p)
 				expectCheck(t, f.name+", "+m.name, c, p, f.want)
